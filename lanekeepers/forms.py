@@ -95,3 +95,8 @@ def added(load, origin, target):
     more = carts_of(load, origin, target) + 1
     others = [entry for entry in load if (entry[0], entry[1]) != (origin, target)]
     return sorted(others + [(origin, target, more)])
+
+
+def is_within(load, other):
+    """Whether the load is at most the other one."""
+    return all([many <= carts_of(other, origin, target) for origin, target, many in load])

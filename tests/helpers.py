@@ -1,10 +1,11 @@
-"""What several tests share: wrong values, random countries and books by a fixed seed, and a case that
-looks at the errors closely."""
+"""What several tests share: wrong values, a case that looks at the errors closely, random countries, books and
+webs (by a chance with a fixed seed), and slow ways to reckon what the package reckons."""
 
-import random
+import itertools
 import unittest
 
 from lanekeepers.countries import Country
+from lanekeepers.webs import Web
 
 # Values of all kinds that are no country, no web, no list of anything, and no place of a small country.
 ODD = [None, True, False, -1, 99, 10 ** 29, "", "1", b"1", {}, {1: 2}, {1, 2}, int, len, object(), LookupError("x")]
@@ -86,3 +87,91 @@ def random_book(chance, around, places=4):
 def random_load(chance, around, most=3):
     pairs = [(a, b) for a in around for b in around if a != b]
     return sorted(pair + (chance.randint(1, most),) for pair in chance.sample(pairs, chance.randint(0, min(3, len(pairs)))))
+
+
+def random_web(chance, places=3):
+    country = random_country(chance)
+    return Web(country, [random_book(chance, country.neighbours(yard), places) for yard in country.yards])
+
+
+def slow_way(country, start, end):
+    """By going through all walks that never come back."""
+    walks = [[start]]
+    while True:
+        for walk in walks:
+            if walk[-1] == end:
+                return walk
+        walks = [walk + [near] for walk in walks for near in country.neighbours(walk[-1]) if near not in walk]
+
+
+def slow_stands(book, load):
+    """By counting one cart after the other."""
+    carts = [(origin, target) for origin, target, many in load for _ in range(many)]
+    for places, bounds in book:
+        kept = len(carts) <= places
+        for origin, target, most in bounds:
+            met = [cart for cart in carts if (origin is None or cart[0] == origin) and (target is None or cart[1] == target)]
+            kept = kept and len(met) <= most
+        if kept:
+            return True
+    return False
+
+
+def loads_up_to(around, most):
+    """All loads of at most so many carts."""
+    pairs = [(a, b) for a in around for b in around if a != b]
+    for many in range(most + 1):
+        for carts in itertools.combinations_with_replacement(pairs, many):
+            yield [pair + (carts.count(pair),) for pair in pairs if pair in carts]
+
+
+def slow_load(country, carts, yard):
+    """By looking up each cart on its whole way."""
+    pairs = []
+    for place, start, end in carts:
+        if place == yard:
+            walk = slow_way(country, start, end)
+            at = walk.index(yard)
+            pairs.append((walk[at - 1], walk[at + 1]))
+    return [pair + (pairs.count(pair),) for pair in sorted(set(pairs))]
+
+
+def slow_is_stand(web, carts):
+    return all(slow_stands(web.book(yard), slow_load(web.country, carts, yard)) for yard in web.country.yards)
+
+
+def slow_outcome(web, carts, step):
+    """What comes of a step, by the whole stand; None if it can't be done."""
+    rest = list(carts)
+    if step[0] == "in":
+        walk = slow_way(web.country, step[1], step[2])
+        rest.append((walk[1],) + step[1:])
+    else:
+        if step[1:] not in rest:
+            return None
+        rest.remove(step[1:])
+        walk = slow_way(web.country, step[2], step[3])
+        place = walk[walk.index(step[1]) + 1]
+        if place != step[3]:
+            rest.append((place,) + step[2:])
+    return sorted(rest) if slow_is_stand(web, rest) else None
+
+
+def all_steps(country):
+    """All steps that there are, whether or not they can be done."""
+    ways = [(a, b) for a in country.gates for b in country.gates if a != b]
+    return [("in",) + pair for pair in ways] + [
+        ("on", yard) + pair for pair in ways for yard in slow_way(country, *pair)[1:-1]]
+
+
+def random_walk(chance, web, many):
+    """Some steps that can be done one after the other from the empty stand, and the stands behind each of them."""
+    steps, stands = [], [[]]
+    pool = all_steps(web.country)
+    for _ in range(many):
+        step = chance.choice(pool)
+        told = slow_outcome(web, stands[-1], step)
+        if told is not None:
+            steps.append(step)
+            stands.append(told)
+    return steps, stands

@@ -1,8 +1,8 @@
-import itertools
 import random
 import unittest
 
-from helpers import FULL, LINE, ODD, ODD_LISTS, SHORT, STAR, Case, random_book, random_country, random_load
+from helpers import FULL, LINE, ODD, ODD_LISTS, SHORT, STAR, Case, loads_up_to, random_book, random_country, random_load
+from helpers import slow_stands
 from lanekeepers.books import both, either, is_book, stands
 from lanekeepers.errors import InvalidBook, InvalidCountry, InvalidLoad, InvalidYard, TooMany
 
@@ -10,27 +10,6 @@ SHY = [(2, [(None, 3, 1)])]
 PLAIN = [(2, [])]
 CROSS = [(1, 2), (0, 1), (3, 1), (1, 4)]
 LIST_FOR_TUPLE = [[[2, []]], [(2, [[None, 3, 1]])], [[2, [(None, 3, 1)]]]]
-
-
-def slow_stands(book, load):
-    """By counting one cart after the other."""
-    carts = [(origin, target) for origin, target, many in load for _ in range(many)]
-    for places, bounds in book:
-        kept = len(carts) <= places
-        for origin, target, most in bounds:
-            met = [cart for cart in carts if (origin is None or cart[0] == origin) and (target is None or cart[1] == target)]
-            kept = kept and len(met) <= most
-        if kept:
-            return True
-    return False
-
-
-def loads_up_to(around, most):
-    """All loads of at most so many carts."""
-    pairs = [(a, b) for a in around for b in around if a != b]
-    for many in range(most + 1):
-        for carts in itertools.combinations_with_replacement(pairs, many):
-            yield [pair + (carts.count(pair),) for pair in pairs if pair in carts]
 
 
 class IsBookTest(Case):
@@ -51,7 +30,8 @@ class IsBookTest(Case):
 
     def test_places(self):
         self.good(*[[(places, [])] for places in range(1, 7)])
-        self.bad(*[[(places, [])] for places in [0, 7, 10 ** 29, -1, True, False, None, "2", [2], (2,)]])
+        for places in [0, 7, 10 ** 29, -1, True, False, None, "2", [2], (2,)]:
+            self.bad([(places, [])], [(2, []), (places, [])], [(places, []), (2, [])])
 
     def test_most(self):
         self.good(*[[(2, [(1, 3, most)])] for most in range(1, 7)])

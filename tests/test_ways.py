@@ -1,7 +1,7 @@
 import random
 import unittest
 
-from helpers import FULL, LINE, ODD, ODD_LISTS, SHORT, STAR, Case, random_country
+from helpers import FULL, LINE, ODD, ODD_LISTS, SHORT, STAR, Case, random_country, slow_way
 from lanekeepers.countries import Country
 from lanekeepers.errors import InvalidCountry, InvalidEnd, InvalidGoal, InvalidPlace, InvalidPlaces, InvalidStart
 from lanekeepers.errors import InvalidTarget, InvalidYard
@@ -9,16 +9,6 @@ from lanekeepers.ways import all_ways, behind, between, distance, next_place, re
 
 NO_PLACE = ODD + ODD_LISTS + [LINE, [1], (1,)]
 NO_COUNTRY = ODD + ODD_LISTS + [[(0, 1), (1, 2)], [], ()]
-
-
-def slow_way(country, start, end):
-    """By going through all walks that never come back."""
-    walks = [[start]]
-    while True:
-        for walk in walks:
-            if walk[-1] == end:
-                return walk
-        walks = [walk + [near] for walk in walks for near in country.neighbours(walk[-1]) if near not in walk]
 
 
 class WaysTest(Case):
