@@ -33,6 +33,12 @@ def check_target(country, yard, target):
         raise InvalidTarget(target)
 
 
+def check_yard_ahead(country, yard, target):
+    """A target that is a neighbour of the yard and a yard, too."""
+    if not is_neighbour(country, yard, target) or not is_yard(country, target):
+        raise InvalidTarget(target)
+
+
 def check_book(country, yard, book):
     if not is_book_of(country.neighbours(yard), book):
         raise InvalidBook(book)

@@ -99,4 +99,5 @@ def added(load, origin, target):
 
 def is_within(load, other):
     """Whether the load is at most the other one."""
-    return all([many <= carts_of(other, origin, target) for origin, target, many in load])
+    held = {(origin, target): many for origin, target, many in other}
+    return all([many <= held.get((origin, target), 0) for origin, target, many in load])

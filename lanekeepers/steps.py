@@ -38,8 +38,7 @@ def stepped(web, stand, step):
 def after(web, stand, steps):
     check_web(web)
     check_stand(web, stand)
-    if not are_steps(web.country, steps):
-        raise InvalidSteps(steps)
+    check_steps(web.country, steps)
     told = sorted(stand)
     for position, step in enumerate(steps):
         told = outcome(web, told, step)
@@ -57,7 +56,7 @@ def refused(web, stand):
 def is_stuck(web, stand):
     check_web(web)
     check_stand(web, stand)
-    return len(stand) > 0 and all([outcome(web, stand, ("on",) + cart) is None for cart in stand])
+    return is_stuck_stand(web, stand)
 
 
 def why_refused(web, stand, cart):
@@ -74,19 +73,17 @@ def why_refused(web, stand, cart):
 def is_script(web, value, many):
     check_web(web)
     check_many(many, MOST_CARTS)
-    if not are_steps(web.country, value):
-        return False
-    told = []
-    for step in value:
-        told = outcome(web, told, step)
-        if told is None or len(told) > many:
-            return False
-    return True
+    return are_steps(web.country, value) and led_to(web, [], value, many) is not None
 
 
 def check_step(web, step):
     if not is_step_of(web.country, step):
         raise InvalidStep(step)
+
+
+def check_steps(country, steps):
+    if not are_steps(country, steps):
+        raise InvalidSteps(steps)
 
 
 def is_step_of(country, value):
@@ -116,6 +113,28 @@ def outcome(web, stand, step):
     if wanted == end:
         return sorted(carts)
     return with_newcomer(web, carts, (wanted, start, end))
+
+
+def led_to(web, stand, steps, many):
+    """The told stand that the steps lead to; None if one can't be done, or leaves more than many carts."""
+    told = sorted(stand)
+    for step in steps:
+        told = outcome(web, told, step)
+        if told is None or len(told) > many:
+            return None
+    return told
+
+
+def is_stuck_stand(web, stand):
+    return len(stand) > 0 and all([outcome(web, stand, ("on",) + cart) is None for cart in stand])
+
+
+def ends_stuck(web, value, many):
+    """Whether any value is a script that ends stuck, and never lets more than many carts stand."""
+    if not are_steps(web.country, value):
+        return False
+    told = led_to(web, [], value, many)
+    return told is not None and is_stuck_stand(web, told)
 
 
 def with_newcomer(web, carts, cart):

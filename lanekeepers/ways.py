@@ -41,7 +41,7 @@ def between(country, yard, goal):
 def behind(country, yard, target):
     check_country_and_yard(country, yard)
     check_target(country, yard, target)
-    return [other for other in country.yards if other == yard or country.ahead(yard, other) != target]
+    return yards_behind(country, yard, target)
 
 
 def all_ways(country):
@@ -69,6 +69,11 @@ def places_along(country, start, end):
     while places[-1] != end:
         places.append(country.ahead(places[-1], end))
     return places
+
+
+def yards_behind(country, yard, target):
+    """The sorted list of the yards behind the yard, seen from the target, unchecked."""
+    return [other for other in country.yards if other == yard or country.ahead(yard, other) != target]
 
 
 def lanes_along(country, place, goal):

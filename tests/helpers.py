@@ -2,9 +2,11 @@
 webs (by a chance with a fixed seed), and slow ways to reckon what the package reckons."""
 
 import itertools
+import math
 import unittest
 
 from lanekeepers.countries import Country
+from lanekeepers.steps import outcome
 from lanekeepers.webs import Web
 
 # Values of all kinds that are no country, no web, no list of anything, and no place of a small country.
@@ -35,6 +37,18 @@ class Case(unittest.TestCase):
         for value in values:
             with self.subTest(value=repr(value)):
                 self.fails(error, {"value": value}, call, value)
+
+    def refuses(self, call, *params):
+        """Each param is a tuple of its name, a good value, and, where an error is told for it, the error and values
+        for which it is raised. It is, by position and by name, also where all params behind it are wrong, too."""
+        names = [param[0] for param in params]
+        for at, param in enumerate(params):
+            for odd in param[3] if len(param) == 4 else []:
+                with self.subTest(call=call.__name__, name=param[0], value=repr(odd)):
+                    values = [ahead[1] for ahead in params[:at]] + [odd]
+                    values += [behind[3][0] if len(behind) == 4 else behind[1] for behind in params[at + 1:]]
+                    self.fails(param[2], {"value": odd}, call, *values)
+                    self.fails(param[2], {"value": odd}, call, **dict(list(zip(names, values))[::-1]))
 
     def says(self, wanted, value):
         """The value is this bool itself, not something that is equal to it."""
@@ -175,3 +189,103 @@ def random_walk(chance, web, many):
             steps.append(step)
             stands.append(told)
     return steps, stands
+
+
+def slow_witnesses(web, yard, target):
+    """All witnesses of a side, each with the number of its carts ahead, sorted as they are told."""
+    book, around = web.book(yard), web.country.neighbours(yard)
+    pairs = [(origin, target) for origin in around if origin != target]
+    told = []
+    for many in range(1, 7):
+        for carts in itertools.combinations_with_replacement(pairs, many):
+            load = [pair + (carts.count(pair),) for pair in pairs if pair in carts]
+            for barred in around:
+                more = load + [(target, barred, 1)]
+                if barred != target and slow_stands(book, load) and not slow_stands(book, more):
+                    told.append((many, load, barred))
+    return sorted(told)
+
+
+def slow_sides(country):
+    return sorted((a, b) for a in country.yards for b in country.yards if b in country.neighbours(a))
+
+
+def slow_is_towards(country, side, yard):
+    return slow_way(country, side[0], yard)[:2] == list(side)
+
+
+def slow_posts(country, plugged):
+    return [yard for yard in country.yards if not any(slow_is_towards(country, side, yard) for side in plugged)]
+
+
+def slow_facing(country, plugged):
+    return sorted((one, other) for one in plugged for other in plugged if one < other
+                  and slow_is_towards(country, one, other[0]) and slow_is_towards(country, other, one[0]))
+
+
+def bounded_book(chance, country, yard, most=6):
+    places = chance.randint(1, most)
+    near = [other for other in country.neighbours(yard) if other in country.yards]
+    chance.shuffle(near)
+    return [(places, [(None, other, chance.randint(1, places)) for other in near if chance.random() < 0.8])]
+
+
+def bounded_web(chance, most=6):
+    country = random_country(chance)
+    return Web(country, [bounded_book(chance, country, yard, most) for yard in country.yards])
+
+
+def standing_carts(web, yard):
+    """All sorted lists of carts that can stand in the yard."""
+    kinds = []
+    for start in web.country.gates:
+        for end in web.country.gates:
+            walk = slow_way(web.country, start, end)
+            if start != end and yard in walk:
+                at = walk.index(yard)
+                kinds.append(((yard, start, end), (walk[at - 1], walk[at + 1])))
+    told = []
+    for many in range(7):
+        rows = [row for row in itertools.combinations_with_replacement(kinds, many)
+                if slow_stands(web.book(yard), [pair + (1,) for _, pair in row])]
+        told += [[cart for cart, _ in row] for row in rows]
+        # Of more carts none stand, if so many never do.
+        if not rows:
+            break
+    return told
+
+
+def stands_of(web):
+    """All stands of a small web: a list of sorted lists."""
+    told = [[]]
+    for yard in web.country.yards:
+        carts = standing_carts(web, yard)
+        told = [stand + row for stand in told for row in carts]
+    return sorted(sorted(stand) for stand in told)
+
+
+def coming_stands(web, most=42):
+    """All stands of a small web to which scripts lead with never more than so many carts."""
+    seen, waiting = {()}, [()]
+    pool = all_steps(web.country)
+    while waiting:
+        stand = waiting.pop()
+        for step in pool:
+            if step[0] == "in" or step[1:] in stand:
+                told = outcome(web, stand, step)
+                if told is not None and len(told) <= most and tuple(told) not in seen:
+                    seen.add(tuple(told))
+                    waiting.append(tuple(told))
+    return sorted(list(stand) for stand in seen)
+
+
+def small_webs(chance, many, make, most=250):
+    """So many random webs of two or three yards with at most so many stands."""
+    told = []
+    while len(told) < many:
+        country = random_country(chance)
+        if len(country.yards) in (2, 3) and len(country.gates) < 5:
+            web = Web(country, [make(chance, country, yard) for yard in country.yards])
+            if math.prod(len(standing_carts(web, yard)) for yard in country.yards) <= most:
+                told.append(web)
+    return told

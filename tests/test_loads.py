@@ -9,6 +9,7 @@ from lanekeepers.errors import InvalidBook, InvalidCountry, InvalidLoad, Invalid
 from lanekeepers.errors import InvalidYard, TooMany
 from lanekeepers.loads import greatest_loads, heaviest, is_at_most, is_load, lets, loads_towards, with_cart, within
 from lanekeepers.webs import Web
+from wrong import BAD_LOADS, NO_WEB
 
 PLAIN = [(2, [])]
 SHY = [(2, [(None, 3, 1)])]
@@ -18,13 +19,6 @@ CROSS = Country([(0, 1), (0, 2), (0, 3), (0, 4)])
 JUST_400 = [(5, [(3, None, 3), (2, None, 3)])]
 # The other alternative lets just one load more: four carts from 3 to 1.
 ONE_MORE = JUST_400 + [(4, [(3, 2, 0), (2, None, 3)])]
-
-BAD_LOADS = [[(1, 3, 0)], [(1, 3, True)], [(1, 3, -1)], [(1, 3, "1")], [(1, 3, None)], [(3, 1, 1), (1, 3, 1)],
-             [(1, 3, 1), (1, 3, 1)], [(1, 3, 1), (1, 3, 2)], [(1, 3, 2), (1, 3, 1)], [[1, 3, 1]], ([1, 3, 1],), [(1, 1, 1)],
-             [(1, 2, 1)], [(2, 1, 1)], [(0, 3, 1)], [(1, 4, 1)], [(True, 3, 1)], [(3, True, 1)], [(None, 3, 1)],
-             [(1, None, 1)], [(1, 3)], [(1, 3, 1, 1)], [()], [([1], 3, 1)], [(1, 10 ** 29, 1)], [(1, 3, 1), None],
-             {(1, 3, 1): 1}, (1, 3, 1), [(1, 3, 1), [3, 1, 1]]]
-NO_WEB = ODD + ODD_LISTS + [LINE, [LINE, [PLAIN, SHY, PLAIN]]]
 
 
 def at_most(load, other):

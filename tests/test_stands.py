@@ -8,16 +8,11 @@ from lanekeepers.loads import is_load
 from lanekeepers.stands import counted, is_cart, is_stand, lanes_left, load_at
 from lanekeepers.steps import after, can_step, is_stuck, refused, stepped, why_refused
 from lanekeepers.webs import Web
+from wrong import NO_CARTS, NO_STANDS, NO_WEB
 
 ROW = Web(LINE, [[(2, [])], [(2, [])], [(2, [])]])
 SHY = Web(LINE, [[(2, [(None, 2, 1)])], [(2, [(1, 3, 1)]), (1, [])], [(2, [])]])
 TREE = Web(STAR, [[(2, [])]] * 4)
-
-NO_CARTS = [(0, 0, 4), (4, 0, 4), (2, 0, 0), (2, 4, 4), (2, 0, 3), (2, 1, 4), (5, 0, 4), (1, 0), (1, 0, 4, 4), [1, 0, 4],
-            (True, 0, 4), (1, False, 4), (1, 0, True), (None, 0, 4), (1, None, 4), (1, 0, None), ("1", 0, 4), (10 ** 29, 0, 4),
-            (1, 0, 10 ** 29), (-1, 0, 4), ([1], 0, 4), (1, (0,), 4), (1, 0, {}), ()]
-NO_STANDS = [[(1, 0, 4)] * 3, [(2, 0, 4), (2, 4, 0), (2, 0, 4)], (1, 0, 4), {(1, 0, 4): 1}, [[(1, 0, 4)]], [(1, 0, 4), None]]
-NO_WEB = ODD + ODD_LISTS + [LINE, [LINE, ROW.books]]
 
 
 class CartTest(Case):

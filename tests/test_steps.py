@@ -7,6 +7,7 @@ from lanekeepers.errors import InvalidCart, InvalidCountry, InvalidMany, Invalid
 from lanekeepers.errors import Refused, StepFails
 from lanekeepers.steps import after, can_step, is_script, is_step, is_stuck, refused, stepped, why_refused
 from lanekeepers.webs import Web
+from wrong import NO_STEPS
 
 PLAIN = [(2, [])]
 ROW = Web(LINE, [PLAIN] * 3)
@@ -14,12 +15,6 @@ WIDE = Web(LINE, [[(6, [])]] * 3)
 JAM = [("in", 4, 0), ("on", 3, 4, 0), ("in", 4, 0), ("on", 3, 4, 0), ("in", 0, 4), ("in", 0, 4)]
 JAMMED = [(1, 0, 4), (1, 0, 4), (2, 4, 0), (2, 4, 0)]
 IN, OUT = ("in", 0, 4), [("on", 1, 0, 4), ("on", 2, 0, 4), ("on", 3, 0, 4)]
-
-NO_STEPS = [("in", 0, 0), ("in", 0, 3), ("in", 1, 4), ("in", 0), ("in", 0, 4, 4), ("in", 1, 0, 4), ["in", 0, 4], ("In", 0, 4),
-            ("in ", 0, 4), (b"in", 0, 4), ("in", False, 4), ("in", 0, None), ("in", "0", 4), ("in", 0, 10 ** 29), ("in",),
-            ("on", 0, 0, 4), ("on", 4, 0, 4), ("on", 2, 0, 0), ("on", 2, 0, 3), ("on", 2, 1, 4), ("on", 1, 0), ("on", 0, 4),
-            ("on", 1, 0, 4, 4), ["on", 1, 0, 4], ("off", 1, 0, 4), ("on", True, 0, 4), ("on", 1, False, 4), ("on", 1, 0, None),
-            ("on", (1, 0, 4)), ("on", [1], 0, 4), (None, 0, 4), (0, 0, 4), (1, 0, 4), (["in"], 0, 4), (), ("on",), "in", "on 1:0>4"]
 
 
 class IsStepTest(Case):
