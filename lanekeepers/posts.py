@@ -40,8 +40,7 @@ def nearest(web):
     pairs = facing_among(web.country, plugged_sides(web))
     if len(pairs) == 0:
         return None
-    _, one, other = min([(lanes_along(web.country, one[0], other[0]), one, other) for one, other in pairs])
-    return one, other
+    return min([(lanes_along(web.country, one[0], other[0]), one, other) for one, other in pairs])[1:]
 
 
 def check_side(country, side):

@@ -62,11 +62,16 @@ def told_witness(web, yard, target):
     """The told witness of the side, unchecked; None if it isn't plugged."""
     book = web.book(yard)
     others = [near for near in web.country.neighbours(yard) if near != target]
-    for _, load in sorted([(carts_of(load, None, None), load) for load in standing_towards(web, yard, target)]):
+    for _, load in by_carts(standing_towards(web, yard, target)):
         for barred in others:
             if keeps_out(book, load, target, barred):
                 return load, barred
     return None
+
+
+def by_carts(loads):
+    """The loads by how many carts they have, then by themselves: a list of tuples of both."""
+    return sorted([(carts_of(load, None, None), load) for load in loads])
 
 
 def keeps_out(book, load, origin, target):

@@ -289,3 +289,69 @@ def small_webs(chance, many, make, most=250):
             if math.prod(len(standing_carts(web, yard)) for yard in country.yards) <= most:
                 told.append(web)
     return told
+
+
+def load_of_carts(pairs):
+    """The load of carts told by their pairs of origin and target."""
+    return [pair + (pairs.count(pair),) for pair in sorted(set(pairs))]
+
+
+def slow_is_at_most(load, other):
+    """By taking the carts of the load out of the other one, one by one."""
+    rest = [(a, b) for a, b, many in other for _ in range(many)]
+    for a, b, many in load:
+        for _ in range(many):
+            if (a, b) not in rest:
+                return False
+            rest.remove((a, b))
+    return True
+
+
+def slow_surely_let(known, load):
+    return sum(many for _, _, many in load) < 2 or any(slow_is_at_most(load, seen) for seen in known[1])
+
+
+def slow_surely_refused(known, load):
+    return sum(many for _, _, many in load) > known[0] or any(slow_is_at_most(seen, load) for seen in known[2])
+
+
+def random_known(chance, around, places, most_let, most_refused):
+    """A known with these places of the yard with these neighbours, with some loads of two carts and more."""
+    pairs = [(a, b) for a in around for b in around if a != b]
+    let = [load_of_carts(chance.choices(pairs, k=chance.randint(1, places))) for _ in range(chance.randint(0, most_let))]
+    refused = []
+    for _ in range(chance.randint(0, most_refused)):
+        load = load_of_carts(chance.choices(pairs, k=chance.randint(2, places + 1)))
+        if not slow_surely_let((places, let, []), load):
+            refused.append(load)
+    return places, let, refused
+
+
+def all_fillings(around, known):
+    """All fillings of the yard that fit, each as the list of all loads that stand by it; for few open loads."""
+    loads = list(loads_up_to(around, known[0]))
+    sure = [load for load in loads if slow_surely_let(known, load)]
+    free = [load for load in loads if load not in sure and not slow_surely_refused(known, load)]
+    told = []
+    for taken in itertools.product([False, True], repeat=len(free)):
+        more = [load for load, is_taken in zip(free, taken) if is_taken]
+        standing = sure + more
+        less = [other for load in more for other in free if slow_is_at_most(other, load)]
+        if all(other in standing for other in less):
+            told.append(standing)
+    return told
+
+
+def greatest_of(loads):
+    """The filling that tells what is at most one of these loads."""
+    return sorted(load for load in loads if not any(load != other and slow_is_at_most(load, other) for other in loads))
+
+
+def slow_plugged_by(around, standing, target):
+    """Whether the side towards the target is plugged if just these loads stand."""
+    for load in standing:
+        if load and all(entry[1] == target for entry in load):
+            carts = [(a, b) for a, b, many in load for _ in range(many)]
+            if any(near != target and load_of_carts(carts + [(target, near)]) not in standing for near in around):
+                return True
+    return False

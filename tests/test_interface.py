@@ -25,6 +25,13 @@ plans: stuck_stand(web) stuck_script(web) shows_stuck(web, value)
 turns: turned(web) turned_load(country, yard, load) turned_stand(web, stand) turned_steps(country, steps)
 comings: emptied(web, stand) can_all_come(web) never_comes(web) coming_script(web, stand)
 comings: led_over(web, stand, other) is_lead(web, stand, other, value)
+seen: is_known(country, yard, value) is_let(country, yard, known, load) noted(country, yard, known, load, word)
+seen: fits(country, yard, known, book)
+knowns: can_be_plugged(country, knowns, yard, target) can_be_free(country, knowns, yard, target)
+knowns: plugging(country, knowns, yard, target) freeing(country, knowns, yard, target) verdict(country, knowns)
+knowns: fillings(country, knowns) is_filling(country, knowns, value) filled_posts(country, filling)
+bounds: is_bounded(web) places_of(web, yard) bound_of(web, yard, target)
+few: sums(web) fewest(web) fewest_script(web) fewest_stand(web) is_few_script(web, many, value)
 """
 METHODS = """
 countries: Country: __init__(self, lanes) lanes(self) yards(self) gates(self) neighbours(self, place) __eq__(self, other)

@@ -29,3 +29,13 @@ NO_STEPS = [("in", 0, 0), ("in", 0, 3), ("in", 1, 4), ("in", 0), ("in", 0, 4, 4)
             ("on", 1, 0, 4, 4), ["on", 1, 0, 4], ("off", 1, 0, 4), ("on", True, 0, 4), ("on", 1, False, 4), ("on", 1, 0, None),
             ("on", (1, 0, 4)), ("on", [1], 0, 4), (None, 0, 4), (0, 0, 4), (1, 0, 4), (["in"], 0, 4), (), ("on",), "in", "on 1:0>4"]
 NO_STEP_LISTS = ODD + ODD_LISTS + NO_STEPS[:-4] + [[step] for step in NO_STEPS] + [("in", 0, 4), {("in", 0, 4): 1}]
+# Of yard 2 of LINE, as all that is wrong in them is a part.
+ONE_CART, TWO_ON, TWO_BACK, EACH_WAY = [(1, 3, 1)], [(1, 3, 2)], [(3, 1, 2)], [(1, 3, 1), (3, 1, 1)]
+NO_KNOWNS = [(0, [], []), (7, [], []), (True, [], []), (None, [], []), ("2", [], []), (10 ** 29, [], []), (-1, [], []),
+             (2, []), (2, [], [], []), [2, [], []], (2, None, []), (2, [], None), (2, {}, []), (2, [], ""), (2, 1, []),
+             (2, [TWO_ON] * 13, []), (2, [], [TWO_ON] * 13), (2, [TWO_ON, None], []), (2, [], [TWO_ON, [[1, 3, 2]]]),
+             (2, [], [[]]), (2, [], [ONE_CART]), (2, [], [[(3, 1, 1)]]), (2, [], [TWO_ON, [(3, 1, 1)]]),
+             (2, [TWO_ON], [TWO_ON]), (2, [EACH_WAY], [TWO_ON, EACH_WAY]), (3, [[(1, 3, 2), (3, 1, 1)]], [TWO_ON]),
+             (3, [[(1, 3, 2), (3, 1, 1)]], [EACH_WAY]), (1, [TWO_ON], []), (2, [EACH_WAY, [(1, 3, 1), (3, 1, 2)]], []),
+             (2, [[(1, 3, 3)]], [TWO_BACK]), (), (2, TWO_ON, []), (2, [], TWO_ON)] + [(2, [odd], []) for odd in BAD_LOADS]
+NO_KNOWNS = NO_KNOWNS + [(2, [], [odd]) for odd in BAD_LOADS]
