@@ -1,7 +1,7 @@
 """The errors that belong to parameters of certain names everywhere: each check raises the one of its name."""
 
-from lanekeepers.countries import Country, is_neighbour, is_place, is_yard
-from lanekeepers.errors import InvalidBook, InvalidCountry, InvalidLoad, InvalidMany, InvalidPlace
+from lanekeepers.countries import Country, is_gate, is_neighbour, is_place, is_yard
+from lanekeepers.errors import InvalidBook, InvalidCountry, InvalidGate, InvalidLoad, InvalidMany, InvalidPlace
 from lanekeepers.errors import InvalidTarget, InvalidYard
 from lanekeepers.forms import is_book_of, is_load_of
 from lanekeepers.values import is_count
@@ -20,6 +20,11 @@ def check_place(country, place):
 def check_yard(country, yard):
     if not is_yard(country, yard):
         raise InvalidYard(yard)
+
+
+def check_gate(country, gate):
+    if not is_gate(country, gate):
+        raise InvalidGate(gate)
 
 
 def check_country_and_yard(country, yard):

@@ -27,11 +27,16 @@ def shows_stuck(web, value):
 
 
 def planned_steps(web, pair):
-    """The steps that bring each cart of the plan from its gate all the way to its place, one cart at a time."""
+    """The steps of the plan for two plugged sides that face each other."""
+    return bringing(web.country, planned_carts(web, pair))
+
+
+def bringing(country, carts):
+    """The steps that bring each of the carts from its gate all the way to its place, one cart at a time."""
     steps = []
-    for yard, start, end in planned_carts(web, pair):
+    for yard, start, end in carts:
         steps.append(("in", start, end))
-        for place in places_along(web.country, start, yard)[1:-1]:
+        for place in places_along(country, start, yard)[1:-1]:
             steps.append(("on", place, start, end))
     return steps
 

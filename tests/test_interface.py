@@ -32,6 +32,12 @@ knowns: plugging(country, knowns, yard, target) freeing(country, knowns, yard, t
 knowns: fillings(country, knowns) is_filling(country, knowns, value) filled_posts(country, filling)
 bounds: is_bounded(web) places_of(web, yard) bound_of(web, yard, target)
 few: sums(web) fewest(web) fewest_script(web) fewest_stand(web) is_few_script(web, many, value)
+stairs: is_line(web) stairs(web) can_stick(web, east, west) line_script(web, east, west)
+rounds: round_fewest(places, forward, backward) round_stand(places, forward, backward)
+rounds: is_round_stuck(places, forward, backward, value)
+doors: kind(web, gate) clear_doors(web, gates) joined(web, gate, other, door) are_never_stuck(near, far)
+doors: parting(near, far)
+mends: mended(web, mends) price(web, prices, post) cheapest(web, prices) cheapest_mends(web, prices)
 """
 METHODS = """
 countries: Country: __init__(self, lanes) lanes(self) yards(self) gates(self) neighbours(self, place) __eq__(self, other)
