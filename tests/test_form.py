@@ -13,6 +13,7 @@ ALLOWED_BUILTINS = """len range enumerate zip min max sum abs sorted reversed in
 frozenset isinstance ord repr any all divmod pow Exception ValueError TypeError KeyError IndexError LookupError
 ZeroDivisionError ArithmeticError OverflowError RuntimeError NotImplementedError AttributeError NotImplemented
 property classmethod staticmethod map super getattr hasattr""".split()
+ALLOWED_METHODS = ["__init__", "__eq__", "__len__", "__getitem__", "__contains__", "__iter__", "__call__", "__enter__", "__exit__"]
 BARRED_WORDS = ["type", "typing", "typing_extensions", "enum", "Enum", "namedtuple", "dataclass", "contextmanager"]
 BARRED_NODES = (ast.GeneratorExp, ast.Global, ast.AsyncFunctionDef, ast.Div, ast.Await)
 
@@ -103,6 +104,38 @@ class FormTest(unittest.TestCase):
                         self.assertNotIn(word, own, name)
                         self.assertFalse(is_builtin(word), (name, word))
             self.assertEqual([word for word in defined_in(tree) if is_builtin(word)], [])
+
+    def test_double_underscore_methods(self):
+        for name, tree in trees():
+            for kind in [node for node in tree.body if isinstance(node, ast.ClassDef)]:
+                methods = {node.name: node for node in kind.body if isinstance(node, ast.FunctionDef)}
+                for word in methods:
+                    self.assertTrue(not word.startswith("__") or word in ALLOWED_METHODS, (name, word))
+                if "__getitem__" in methods:
+                    self.assertIsInstance(methods["__iter__"].body[-1], ast.Raise)
+                if "__len__" in methods:
+                    self.assertTrue(ast.unparse(methods["__len__"].body[-1]).startswith("return len("))
+
+    def test_errors_that_are_caught_and_raised(self):
+        own = defined_in(ast.parse(text_of("errors.py")))
+        for name, tree in trees():
+            for node in ast.walk(tree):
+                if isinstance(node, ast.ExceptHandler):
+                    kinds = node.type.elts if isinstance(node.type, ast.Tuple) else [node.type]
+                    self.assertEqual([kind.id for kind in kinds if kind.id not in own], [], name)
+                if isinstance(node, ast.Raise):
+                    self.assertIn(node.exc.func.id, own + ["TypeError"])
+
+    def test_tables_of_functions(self):
+        # Functions in a table at module level are defined in the same file, above it.
+        for name, tree in trees():
+            above = []
+            for node in tree.body:
+                if isinstance(node, ast.Assign):
+                    used = [part.id for part in ast.walk(node.value) if isinstance(part, ast.Name)]
+                    self.assertEqual([word for word in used if word not in above], [], name)
+                if isinstance(node, ast.FunctionDef):
+                    above.append(node.name)
 
     def test_statements_and_expressions(self):
         for name, tree in trees():

@@ -38,10 +38,19 @@ rounds: is_round_stuck(places, forward, backward, value)
 doors: kind(web, gate) clear_doors(web, gates) joined(web, gate, other, door) are_never_stuck(near, far)
 doors: parting(near, far)
 mends: mended(web, mends) price(web, prices, post) cheapest(web, prices) cheapest_mends(web, prices)
+texts: country_text(country) book_text(country, yard, book) web_text(web) stand_text(web, stand) steps_text(country, steps)
+readers: country_of(text) book_of(country, yard, text) web_of(text) stand_of(web, text) steps_of(country, text)
+claims: words() is_claim(value) is_true(claim) contrary(claim) paper_of(claim) is_paper_of(claim, value)
+commands: is_name(value) is_command(value) is_deed(value)
+desk: tried(desk, action)
 """
 METHODS = """
 countries: Country: __init__(self, lanes) lanes(self) yards(self) gates(self) neighbours(self, place) __eq__(self, other)
 webs: Web: __init__(self, country, books) country(self) books(self) book(self, yard) __eq__(self, other)
+desk: Desk: __init__(self) names(self) labels(self) __len__(self) __getitem__(self, at) __contains__(self, x)
+desk: Desk: claim_of(self, label) do(self, command) __call__(self, command) do_all(self, *commands) attempt(self, *commands)
+desk: Desk: attach(self, label, paper) fits(self, label) lines(self) copy(self) again(cls, lines)
+desk: Trial: __init__(self, desk) __enter__(self) __exit__(self, kind, value, trace)
 """
 
 
@@ -50,10 +59,11 @@ def told_calls(text):
 
 
 def written(function):
-    """The function's name and parameters as the document writes them; just plain ones."""
+    """The function's name and parameters as the document writes them; just plain ones, and one with a star."""
     plain = function.args
-    assert not (plain.posonlyargs or plain.kwonlyargs or plain.vararg or plain.kwarg or plain.defaults), function.name
-    return f"{function.name}({', '.join(one.arg for one in plain.args)})"
+    assert not (plain.posonlyargs or plain.kwonlyargs or plain.kwarg or plain.defaults), function.name
+    names = [one.arg for one in plain.args] + (["*" + plain.vararg.arg] if plain.vararg else [])
+    return f"{function.name}({', '.join(names)})"
 
 
 def body_of(name):
