@@ -24,7 +24,7 @@ def words():
 
 
 def is_claim(value):
-    if not isinstance(value, tuple) or len(value) < 2 or not isinstance(value[0], str):
+    if not isinstance(value, tuple) or len(value) < 2:
         return False
     rows = [row for row in ROWS if value[0] in row]
     return len(rows) > 0 and isinstance(value[1], Web) and are_parts(rows[0][0], value[1], value[2:])

@@ -59,7 +59,7 @@ def parting(near, far):
 
 def check_kinds(near, far):
     for told in (near, far):
-        if not isinstance(told, str) or told not in KINDS:
+        if told not in KINDS:
             raise InvalidKind(told)
 
 

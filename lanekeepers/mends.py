@@ -56,7 +56,7 @@ def are_mends(web, value):
 
 
 def is_mend(web, value):
-    if not isinstance(value, tuple) or len(value) != 3 or not isinstance(value[0], str):
+    if not isinstance(value, tuple) or len(value) != 3:
         return False
     word, yard, target = value
     if not is_side_of(web.country, (yard, target)) or not is_plugged_by_bound(web, yard, target):

@@ -191,7 +191,8 @@ class PaperTest(Case):
 
     def test_posts(self):
         self.papers(("never", KEPT), [3], [odd for odd in ODD] + [1, 2, 0, 4, [3], (3,)])
-        self.papers(("never", Web(SHORT, [PLAIN])), [1], ODD + [0, 2])
+        for word in ["never", "allcome"]:
+            self.papers((word, Web(SHORT, [PLAIN])), [1], ODD + [0, 2])
         self.papers(("allcome", turned(KEPT)), [3], ODD + [1, 2, 0, 4])
         self.papers(("never", PLAIN_ROW), [], ODD + [1, 2, 3])
         self.papers(("allcome", KEPT), [], ODD + [1, 2, 3])
@@ -221,7 +222,8 @@ class PaperTest(Case):
         star = Web(STAR, [[(3, [(None, 1, 2)])], PLAIN, PLAIN, PLAIN])
         loads = [[(2, 1, 2)], [(2, 1, 1), (3, 1, 1)], [(3, 1, 2)]]
         self.papers(("free", star, 0, 1), [list(told) for told in itertools.permutations(loads)] + [with_tuples(loads)],
-                    [loads[:2], loads + loads[:1], loads[1:]])
+                    [loads[:2], loads + loads[:1], loads[1:], [[(2, 1, 2)], [(2, 1, True), (3, 1, 1)], [(3, 1, 2)]],
+                     [[(2, 1, 2)], [(2, 1, 1), [3, 1, 1]], [(3, 1, 2)]]])
         # Of a plugged side the heaviest loads are no paper.
         self.papers(("free", PLAIN_ROW, 1, 2), [], [[[(0, 2, 2)]]])
 

@@ -127,6 +127,15 @@ class ThingsTest(Case):
         desk.do_all("land k w", "claim w can w")
         self.assertEqual([desk.names, desk.labels], [["k", "w"], ["k", "w"]])
 
+    def test_names_that_are_words_of_commands(self):
+        words = ["undo", "redo", "names", "states", "state", "claim", "drop", "posts"]
+        desk = desk_with(*["web " + word + " 0-1,1-2|2" for word in words])
+        for word in words:
+            self.assertEqual([desk("posts " + word), desk("show " + word)], ["1", "0-1, 1-2 | 2"])
+            self.assertEqual([desk("claim " + word + " can " + word), desk("state " + word)], [word + " false", "false"])
+            self.assertEqual(desk("drop " + word), word + " gone")
+        self.assertEqual([desk.names, desk.labels, len(desk)], [[], sorted(words), 24])
+
     def test_lists_are_the_caller_s(self):
         desk = desk_with(ROW, "jam j w", "claim m stuck w j", "claim b barred w 1 3<0>2")
         desk["j"].append(1)

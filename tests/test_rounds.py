@@ -104,6 +104,10 @@ class StuckTest(Case):
 
     def test_more_than_may_stand(self):
         self.says(False, is_round_stuck(ONES, ONES, ONES, [(1, 1)] * 3))
+        # In one yard alone.
+        self.says(False, is_round_stuck(ONES, ONES, ONES, [(1, 1), (1, 0), (1, 0)]))
+        self.says(False, is_round_stuck(TWOS, ONES, ONES, [(1, 0), (1, 0), (2, 0)]))
+        self.says(False, is_round_stuck(TWOS, ONES, ONES, [(0, 1), (0, 2), (0, 1)]))
         self.says(False, is_round_stuck(TWOS, ONES, ONES, [(2, 0)] * 3))
         self.says(False, is_round_stuck(TWOS, TWOS, ONES, [(0, 2)] * 3))
         self.says(True, is_round_stuck(TWOS, TWOS, ONES, [(1, 1)] * 3))
